@@ -15,9 +15,9 @@ class EditCase(BenchCase):
         size = len(bytes.fromhex(pattern))
         data = {PATTERN: pattern + "20 20", DIGITS: digits}
         stored = {PATTERN: then}
-        self.check(f"DE {size - 1:02X} 0100 0180", {1: 0xAB123456}, data, stored=stored, condition=condition)
+        self.check(f"DE {size - 1:02X} 0100 0180", {1: 0xABFFFFFF}, data, stored=stored, condition=condition)
         place = {} if marked is None else {1: 0xAB000000 + PATTERN + marked}
-        self.check(f"DF {size - 1:02X} 0100 0180", {1: 0xAB123456}, data, then=place, stored=stored,
+        self.check(f"DF {size - 1:02X} 0100 0180", {1: 0xABFFFFFF}, data, then=place, stored=stored,
                    condition=condition)
 
 
@@ -37,6 +37,7 @@ class FieldTest(EditCase):
 
     def test_every_digit(self):
         self.edit("40" + "20" * 10, "12 34 56 78 90", "40 F1 F2 F3 F4 F5 F6 F7 F8 F9 F0", 1, marked=1)
+        self.edit("40" + "20" * 10, "01 23 45 67 89", "40 40 F1 F2 F3 F4 F5 F6 F7 F8 F9", 1, marked=2)
 
     def test_every_sign(self):
         for sign in "ACEF":
@@ -124,6 +125,10 @@ class BeforeTest(BenchCase):
     def test_the_mark_with_its_own_register_as_place(self):
         self.check("DF 01 1000 0180", {1: 0xFF000100}, {0x100: "40 20", 0x180: "5C"}, then={1: 0xFF000101},
                    stored={0x100: "40 F5"}, condition=2)
+
+    def test_a_mark_at_place_0(self):
+        self.check("DF 00 0000 0180", {1: 0xABCDEF01}, {0: "20", 0x180: "5C"}, then={1: 0xAB000000},
+                   stored={0: "F5"}, condition=2, place=0x40)
 
     def test_256_bytes(self):
         self.check("DE FF 0100 0200", data={0x100: "20" * 256, 0x200: "11" * 128}, stored={0x100: "F1" * 256},

@@ -253,6 +253,7 @@ class HalvesTest(PackedCase):
         self.both("F1", "77 88 9C", "12 34 56", "23 45 6C")
         self.both("F1", "77 88 9C", "AB CD EF 12", "DE F1 2C")
         self.both("F1", "9C", "34", "4C")
+        self.both("F1", "77 81", "12 30", "23 01")
         self.both("F1", "77 88 99 9C", "5F", "00 00 05 FC")
 
     def test_F1_overlapping(self):

@@ -42,7 +42,7 @@ class LoadTest(BenchCase):
 
     def test_43(self):
         self.check("43 10 0101", {1: 0x12345678}, {AT: "00 9A"}, then={1: 0x1234569A})
-        self.check("43 10 2000", {1: 0x12345678, 2: 65535}, then={1: 0x12345600})
+        self.check("43 10 2000", {1: 0x123456FF, 2: 65535}, then={1: 0x12345600})
         self.check("43 10 2000", {2: 65536}, number=5)
 
     def test_48(self):

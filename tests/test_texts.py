@@ -114,6 +114,10 @@ class TranslateTest(BenchCase):
         self.check("DD 00 0100 0200", {1: 0, 2: 0xFFFFFFFF}, {FIRST: "FF", TABLE: table},
                    then={1: 0x100, 2: 0xFFFFFF01}, condition=2)
 
+    def test_DD_leaves_the_higher_bits_alone(self):
+        self.check("DD 01 0100 0200", {1: 0x00FFFFFF, 2: 0x000000FF}, {FIRST: "01 04", TABLE: table_with({1: 8})},
+                   then={1: 0x100, 2: 8}, condition=1)
+
     def test_DD_with_its_own_registers_as_places(self):
         self.check("DD 01 1000 2000", {1: 0x100, 2: 0x200}, {FIRST: "05 06", TABLE: table_with({5: 8})},
                    then={1: 0x100, 2: 0x208}, condition=1)

@@ -194,6 +194,9 @@ class QuotientTest(BenchCase):
         self.check("1D 24", {2: 0, 3: 17, 4: 0xFFFFFFFB}, then={2: 2, 3: 0xFFFFFFFD})
         self.check("1D 24", {2: MINUS_1, 3: 0xFFFFFFEF, 4: 0xFFFFFFFB}, then={2: 0xFFFFFFFE, 3: 3})
         self.check("1D 24", {2: 0, 3: 0, 4: 0xFFFFFFFB}, then={2: 0, 3: 0})
+        self.check("1D 24", {2: MINUS_1, 3: MINUS_1, 4: 1}, then={2: 0, 3: MINUS_1})
+        self.check("1D 24", {2: MINUS_1, 3: MINUS_1, 4: MINUS_1}, then={2: 0, 3: 1})
+        self.check("1D 24", {2: 0, 3: 1, 4: MINUS_1}, then={2: 0, 3: MINUS_1})
         self.check("1D 24", {2: MINUS_1, 3: 0xFFFFFFFD, 4: 5}, then={2: 0xFFFFFFFD, 3: 0})
         self.check("1D 24", {2: 0x12, 3: 0x34567890, 4: 0x01000000}, then={2: 0x567890, 3: 0x1234})
 

@@ -92,6 +92,7 @@ class ManyTest(BenchCase):
         self.check("90 24 3000", {3: 65524}, stored={65524: f"{filler(2):08X} {65524:08X} {filler(4):08X}"})
         self.check("98 24 3000", {3: 65524}, then={2: 0, 3: 0, 4: 0})
         self.check("90 10 3000", {3: 65476}, number=5)
+        self.check("98 10 3000", {3: 65476}, number=5)
         self.check("98 10 3000", {3: 65472}, then={which: 0 for which in range(16)})
 
 
